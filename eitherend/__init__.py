@@ -1,0 +1,1 @@
+"""Coins in a row, taken in turns from either end."""
