@@ -4,7 +4,7 @@ import random
 import time
 import unittest
 
-from eitherend.coins import answers
+from eitherend.coins import UnknownCall, answers
 from tests.helper import BACK, BEST, GETS, LEAD, LEFT, RIGHT, SHOWS, SlowGame, ask, parted, row, take, written
 
 ALL_SEVEN = written([
@@ -53,6 +53,12 @@ class Form(unittest.TestCase):
             if min(part) < 0:
                 self.assertEqual(len(part), 1)
                 self.assertIn(part[0], (-1, -6, -9))
+
+    def test_a_number_of_no_call(self):
+        self.assertRaises(UnknownCall, answers, [3, 13])
+
+    def test_the_example_of_the_readme(self):
+        self.assertEqual(answers([0, 3, 5, 8, 2, 5, 1, 0, 3]), [1, 3, 3, 0, 1, 6, 1, 5, 6, 2, 8, 2, 5, 0, 2])
 
 
 class HandedIn(unittest.TestCase):
