@@ -7,6 +7,11 @@ SHOWS = [3]
 LEAD = [4]
 BEST = [5]
 GETS = [6]
+GAMES = [7]
+PLAY = [8]
+PLACES = [9]
+GREEDY = [10]
+BEAT = [11]
 LEFT = [1, 0]
 RIGHT = [1, 1]
 
@@ -17,6 +22,10 @@ def row(*values):
 
 def take(end):
     return [1, end]
+
+
+def swap(i, j):
+    return [12, i, j]
 
 
 def written(calls):
@@ -79,8 +88,61 @@ def searched_gets(coins):
     return shares
 
 
+def searched_games(coins):
+    """All best games, each as the ends that are taken in it."""
+    if len(coins) < 2:
+        return [(0,) * len(coins)]
+    by_left = coins[0] - searched_lead(coins[1:])
+    by_right = coins[-1] - searched_lead(coins[:-1])
+    games = []
+    if by_left >= by_right:
+        games += [(0, *game) for game in searched_games(coins[1:])]
+    if by_left <= by_right:
+        games += [(1, *game) for game in searched_games(coins[:-1])]
+    return games
+
+
+def greedy_took(coins):
+    """The coin that the greedy one takes, and the row without it."""
+    if coins[-1] > coins[0]:
+        return coins[-1], coins[:-1]
+    return coins[0], coins[1:]
+
+
+def greedy_shares(coins):
+    if not coins:
+        return [0, 0]
+    coin, rest = greedy_took(coins)
+    other, own = greedy_shares(rest)
+    return [coin + own, other]
+
+
+def searched_most(coins, end):
+    """The most against the greedy one with this end first: everything else that can be taken is tried."""
+    coin, rest = (coins[-1], coins[:-1]) if end else (coins[0], coins[1:])
+    if rest:
+        rest = greedy_took(rest)[1]
+    if not rest:
+        return coin
+    return coin + max(searched_most(rest, 0), searched_most(rest, 1))
+
+
+def searched_beat(coins):
+    by_left = searched_most(coins, 0)
+    by_right = searched_most(coins, 1)
+    return [by_right, 1] if by_right > by_left else [by_left, 0]
+
+
+def searched_swap(coins, i, j):
+    places = range(1, len(coins) + 1)
+    if i not in places or j not in places:
+        return [-2]
+    origin = {i: j, j: i}
+    return told_lead(searched_lead([coins[origin.get(place, place) - 1] for place in places]))
+
+
 class SlowGame:
-    """The seven calls on a row that never shrinks: what lies there is worked out from the ends taken."""
+    """The thirteen calls on a row that never shrinks: what lies there is worked out from the ends taken."""
 
     def __init__(self):
         self.values = (1,)
@@ -126,4 +188,20 @@ class SlowGame:
             return told_lead(searched_lead(coins))
         if number == 5:
             return searched_best(coins) if coins else [-6]
-        return searched_gets(coins)
+        if number == 6:
+            return searched_gets(coins)
+        return self.answer_further(call, coins)
+
+    def answer_further(self, call, coins):
+        number = call[0]
+        if number == 7:
+            return [len(set(searched_games(coins)))]
+        if number == 8:
+            return self.answer([1, searched_best(coins)[0]]) if coins else [-6]
+        if number == 9:
+            return [sum(coin for place, coin in enumerate(coins, 1) if place % 2 == odd) for odd in (1, 0)]
+        if number == 10:
+            return greedy_shares(coins)
+        if number == 11:
+            return searched_beat(coins) if coins else [-6]
+        return searched_swap(coins, call[1], call[2])

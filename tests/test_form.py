@@ -111,6 +111,16 @@ class Code(unittest.TestCase):
                 if isinstance(node, ast.Call) and isinstance(node.func, ast.Attribute):
                     self.assertIn(node.func.attr, allowed, path)
 
+    def test_methods_and_values_of_objects(self):
+        stored = {
+            node.attr
+            for path in files() for node in nodes(path)
+            if isinstance(node, ast.Attribute) and isinstance(node.ctx, ast.Store)
+        }
+        pythons_own = {name for kind in (str, int, list, tuple, dict, set, bytes) for name in dir(kind)} - {"__init__"}
+        self.assertEqual(stored & own_methods(), set())
+        self.assertEqual((stored | own_methods()) & pythons_own, set())
+
     def test_each_name_once_at_the_top(self):
         for path in files():
             bound = []
@@ -119,6 +129,8 @@ class Code(unittest.TestCase):
                     bound.append(node.targets[0].id)
                 elif isinstance(node, (ast.FunctionDef, ast.ClassDef)):
                     bound.append(node.name)
+                elif isinstance(node, (ast.Import, ast.ImportFrom)):
+                    self.fail(f"{path} imports")
             self.assertEqual(len(bound), len(set(bound)), path)
 
 

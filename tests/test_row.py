@@ -2,7 +2,9 @@
 
 import unittest
 
-from tests.helper import BACK, BEST, GETS, LEAD, LEFT, RIGHT, SHOWS, ask, last, row
+from tests.helper import (
+    BACK, BEAT, BEST, GAMES, GETS, GREEDY, LEAD, LEFT, PLACES, PLAY, RIGHT, SHOWS, ask, last, row, swap,
+)
 
 PLAYED = (row(5, 8, 2), RIGHT, LEFT)
 AS_PLAYED = [1, 8, 2, 5, 1]
@@ -17,9 +19,18 @@ class NewObject(unittest.TestCase):
 
     def test_what_the_coin_is_worth(self):
         self.assertEqual(ask(LEAD, BEST, GETS), [[1, 1], [0, 0, 0], [1, 0]])
+        self.assertEqual(ask(GAMES, PLACES, GREEDY, BEAT, swap(1, 1)), [[1], [1, 0], [1, 0], [1, 0], [1, 1]])
+
+    def test_each_call_is_the_first(self):
+        for call, told in (
+            (LEFT, [1]), (RIGHT, [1]), (BACK, [-9]), (SHOWS, [1, 1, 0, 0, 1]), (LEAD, [1, 1]), (BEST, [0, 0, 0]),
+            (GETS, [1, 0]), (GAMES, [1]), (PLAY, [1]), (PLACES, [1, 0]), (GREEDY, [1, 0]), (BEAT, [1, 0]),
+            (swap(1, 1), [1, 1]), (swap(1, 2), [-2]), (swap(0, 1), [-2]),
+        ):
+            self.assertEqual(ask(call), [told])
 
     def test_the_coin_is_taken_from_either_end(self):
-        for end in (LEFT, RIGHT):
+        for end in (LEFT, RIGHT, PLAY):
             self.assertEqual(
                 ask(end, SHOWS, end, BACK, SHOWS),
                 [[1], [0, 1, 0, 2], [-6], [1], [1, 1, 0, 0, 1]],
@@ -38,8 +49,8 @@ class Laid(unittest.TestCase):
 
     def test_sets_all_anew(self):
         self.assertEqual(
-            ask(*PLAYED, row(4, 6), SHOWS, BACK, LEAD)[3:],
-            [[2], [2, 4, 6, 0, 0, 1], [-9], [1, 2]],
+            ask(*PLAYED, row(4, 6), SHOWS, BACK, LEAD, PLACES, swap(1, 2))[3:],
+            [[2], [2, 4, 6, 0, 0, 1], [-9], [1, 2], [4, 6], [1, 2]],
         )
 
     def test_sets_all_anew_where_no_coin_lies_there(self):
